@@ -1,0 +1,8 @@
+"""The numbers by which a call is refused."""
+
+NO_SUCH = -1
+OUT_OF_RANGE = -2
+TAKEN = -3
+FULL = -4
+LAST_TICK = -5
+NO_TICK_YET = -6
