@@ -55,6 +55,13 @@ def put_body(world, body, x, y, vx, vy):
     world[followed_key(body)] = 0
 
 
+def body_values(world, body):
+    # x, y, both speeds, how many followed; all are 0 if the body isn't there.
+    first = KEYS_OF_A_BODY * body
+    keys = [first, first + 1, first + 2, first + 3, followed_key(body)]
+    return [world.get(key, 0) for key in keys]
+
+
 def follow_axis(world, place_key, push):
     speed_key = place_key + 2
     speed = max(-FASTEST, min(FASTEST, world[speed_key] + push))

@@ -1,6 +1,7 @@
-"""A client's own side: the worlds that came to it and the inputs that it hasn't forgotten."""
+"""A client's own side: the worlds that came to it, the inputs that it hasn't forgotten, what it knows of clocks."""
 
-from mirrornet.bodies import followed_key
+from mirrornet.bodies import follow, followed_key, has_body
+from mirrornet.clocks import both_together
 from mirrornet.packets import Up
 from mirrornet.worlds import keep_world, put_changes
 
@@ -16,6 +17,7 @@ class Client:
         self.worlds = {}
         self.inputs_made = 0
         self.inputs = {}
+        self.bounds = None
 
     def is_full(self):
         return len(self.inputs) >= MOST_INPUTS
@@ -44,6 +46,28 @@ class Client:
         if tick == 0:
             return {}
         return self.worlds[tick]
+
+    def last_world(self):
+        return self.world_of(self.last_tick)
+
+    def guess(self):
+        # What came stays as it is: it may be a base, and is shown.
+        world = dict(self.last_world())
+        if has_body(world, self.body):
+            for push in self.inputs.values():
+                follow(world, self.body, push[0], push[1])
+        return world
+
+    def knows_later_than(self, time):
+        return self.bounds is not None and self.bounds.time > time
+
+    def learn_bounds(self, new, drift):
+        # Says whether all that was known still holds.
+        both = new
+        if self.bounds is not None:
+            both = both_together(self.bounds.later(new.time, drift), new)
+        self.bounds = new if both is None else both
+        return both is not None
 
     def forget_inputs(self, followed):
         for number in list(self.inputs):

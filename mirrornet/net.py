@@ -1,10 +1,11 @@
-"""All that one line of calls has: the server's world, the clients on both sides, the packets."""
+"""All that one line of calls has: the server's world, the clients on both sides, the packets, the drift."""
 
 from mirrornet.bodies import followed_key
 from mirrornet.clients import Client
 from mirrornet.peers import Peer
 from mirrornet.worlds import keep_world
 
+GREATEST_TICK = 10000
 MOST_KEPT = 64
 MOST_CLIENTS = 4
 MOST_PACKETS = 200
@@ -18,6 +19,7 @@ class Net:
         self.clients = {}
         self.peers = {}
         self.packets = []
+        self.drift = 0
 
     def clients_full(self):
         return len(self.clients) >= MOST_CLIENTS
@@ -27,6 +29,9 @@ class Net:
 
     def body_is_taken(self, body):
         return any([client.body == body for client in self.clients.values()])
+
+    def some_clock_is_known(self):
+        return any([client.bounds is not None for client in self.clients.values()])
 
     def add_client(self, number, body):
         self.clients[number] = Client(number, body)

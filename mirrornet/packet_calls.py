@@ -1,4 +1,4 @@
-"""The calls on packets and on what goes into them: send, up, deliver, input."""
+"""The calls on packets and on what goes into them: send, up, deliver, input, packet."""
 
 from mirrornet.bodies import is_push
 from mirrornet.packets import Down
@@ -46,3 +46,34 @@ def add_input(net, number, ax, ay):
     if client.is_full():
         return [FULL]
     return [0, client.make_input(ax, ay)]
+
+
+def tell_packet(net, place):
+    if not 0 <= place < len(net.packets):
+        return [NO_SUCH]
+    packet = net.packets[place]
+    if isinstance(packet, Down):
+        return [0] + told_down(packet)
+    return [0] + told_up(packet)
+
+
+def told_down(packet):
+    told = [0, packet.client, packet.tick, packet.base, len(packet.changes)]
+    for key, was, now in packet.changes:
+        told.append(key)
+        told.extend(told_value(was))
+        told.extend(told_value(now))
+    return told
+
+
+def told_value(value):
+    if value is None:
+        return [0, 0]
+    return [1, value]
+
+
+def told_up(packet):
+    told = [1, packet.client, packet.tick, len(packet.inputs)]
+    for number, push in packet.inputs.items():
+        told.extend([number, push[0], push[1]])
+    return told

@@ -1,15 +1,16 @@
-"""The calls on the server's world: body, client, set, unset, tick, world."""
+"""The calls on the server's side: body, client, set, unset, tick, world, counts."""
 
 from mirrornet.bodies import (
     body_of_key, fits_body_key, has_body, is_body_key, is_body_number, is_place, is_speed, put_body,
 )
+from mirrornet.net import GREATEST_TICK
 from mirrornet.refusals import FULL, LAST_TICK, NO_SUCH, OUT_OF_RANGE, TAKEN
+from mirrornet.worlds import listed
 
 GREATEST_CLIENT = 9
 FIRST_FREE_KEY = 2000
 LAST_FREE_KEY = 2063
 GREATEST_FREE_VALUE = 1000000
-GREATEST_TICK = 10000
 
 
 def is_free_key(key):
@@ -73,7 +74,11 @@ def run_tick(net):
 
 
 def tell_world(net):
-    told = [0, net.tick, len(net.world)]
-    for key in sorted(net.world):
-        told.extend([key, net.world[key]])
+    return [0, net.tick] + listed(net.world)
+
+
+def tell_counts(net):
+    told = [0, net.tick, len(net.world), len(net.packets), len(net.kept)]
+    for number, peer in net.peers.items():
+        told.extend([number, peer.body, peer.known_tick, len(peer.sent)])
     return told

@@ -23,6 +23,13 @@ def put_changes(base, changes):
     return world
 
 
+def listed(world):
+    told = [len(world)]
+    for key in sorted(world):
+        told.extend([key, world[key]])
+    return told
+
+
 def keep_world(worlds, tick, world, most):
     # A tick that is kept already takes no second place.
     worlds[tick] = world

@@ -48,6 +48,46 @@ def world():
     return (9,)
 
 
+def base(c):
+    return (10, c)
+
+
+def guess(c):
+    return (11, c)
+
+
+def render(c, k, n, d=1):
+    return (12, c, k, n, d)
+
+
+def shot(c, dx, dy, t1, t2, n, d=1):
+    return (13, c, dx, dy, t1, t2, n, d)
+
+
+def exchange(c, a, s, b):
+    return (14, c, a, s, b)
+
+
+def offset(c, t):
+    return (15, c, t)
+
+
+def drift(d):
+    return (16, d)
+
+
+def packet(p):
+    return (17, p)
+
+
+def counts():
+    return (18,)
+
+
+def ring(c):
+    return (19, c)
+
+
 def split(told):
     """The answers of a line, one list for each call."""
     parts = []
@@ -70,7 +110,7 @@ def last(*calls):
 
 
 def play(*calls):
-    """The net behind these calls, to look at what no call tells yet."""
+    """The net behind these calls, to look at what no call tells."""
     net = Net()
     for call in calls:
         answer_call(net, call[0], list(call[1:]))
@@ -78,7 +118,7 @@ def play(*calls):
 
 
 def shown(answer):
-    """A world's answer as a dict; its keys must rise."""
+    """The answer of world or base as a dict; its keys must rise."""
     keys = answer[3::2]
     if answer[0] != 0 or answer[2] != len(keys) or keys != sorted(set(keys)):
         raise AssertionError("not a world")
@@ -98,13 +138,18 @@ def state(thing):
 
 def probe():
     """Calls whose answers tell apart what came ahead of them."""
-    calls = [world()]
+    calls = [world(), counts()]
+    for c in range(10):
+        calls += [base(c), guess(c), ring(c), offset(c, 1000), render(c, 0, 3, 2), render(c, 2000, 5)]
+        calls += [shot(c, 1, 0, 1, 2, 2)]
+    calls += [packet(p) for p in range(5)] + [drift(7)]
     for c in range(10):
         calls += [push(c, 1, -1), up(c), send(c)]
     calls += [deliver(p) for p in range(25)]
     calls += [tick()]
     calls += [send(c) for c in range(10)]
     calls += [unset(2000), put(2001, 5), body(7, 1, 2, 3, 4), client(9, 7), tick(), world()]
+    calls += [exchange(c, 1000, 1000, 2000) for c in range(10)] + [counts()]
     return calls
 
 

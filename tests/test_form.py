@@ -22,7 +22,11 @@ METHODS = """append clear copy count endswith extend find get index insert isaln
     rstrip setdefault split splitlines startswith strip update upper values zfill bit_length""".split()
 UNUSED_WORDS = """type typing typing_extensions enum Enum IntEnum StrEnum Flag IntFlag Generic Protocol ABC ABCMeta
     namedtuple NamedTuple TypedDict TYPE_CHECKING abstractmethod""".split()
-UNUSED_NAMES = "register mro elements open input version_info with_traceback add_note format format_map".split()
+UNUSED_NAMES = """register mro elements open input version_info with_traceback add_note format format_map attrgetter
+    breakpoint builtins compile copyright credits delattr dir eval exec exit gc getattr globals hasattr help id importlib
+    license locals methodcaller os quit setattr super type vars sys""".split()
+WALKED_AT_ONCE = "zip enumerate reversed range items keys values".split()
+WALKERS = "list tuple dict sorted sum any all enumerate zip min max".split()
 SPECIAL = "__init__ __eq__ __repr__ __str__ __len__".split()
 OWNERS = (str, int, list, dict, set, bytes, tuple)
 
@@ -123,6 +127,33 @@ class Form(unittest.TestCase):
             words = used + bound + parts + defs
             self.assertEqual([w for w in words if w.startswith("_") and w not in SPECIAL], [], name)
             self.assertEqual([w for w in words if w in UNUSED_NAMES], [], name)
+
+    def test_names_bound_once_and_not_hidden(self):
+        for name, tree in self.trees.items():
+            top = [alias.name for node in tree.body if isinstance(node, ast.ImportFrom) for alias in node.names]
+            top += [node.name for node in tree.body if isinstance(node, (ast.FunctionDef, ast.ClassDef))]
+            top += [node.targets[0].id for node in tree.body if isinstance(node, ast.Assign)]
+            self.assertEqual(len(top), len(set(top)), name)
+            inner = [word for node in functions(tree) for word in bound_names(node)]
+            self.assertEqual([word for word in inner if word in top], [], name)
+            self.assertEqual([word for word in bound_names(tree) if not word.isascii()], [], name)
+
+    def test_is_stands_beside_none_true_and_false(self):
+        for name, tree in self.trees.items():
+            for node in ast.walk(tree):
+                if isinstance(node, ast.Compare) and isinstance(node.ops[0], (ast.Is, ast.IsNot)):
+                    self.assertIn(ast.unparse(node.comparators[0]), ("None", "True", "False"), (name, node.lineno))
+
+    def test_walked_at_once(self):
+        for name, tree in self.trees.items():
+            walked = [node.iter for node in ast.walk(tree) if isinstance(node, (ast.For, ast.comprehension))]
+            for node in ast.walk(tree):
+                if isinstance(node, ast.Call) and getattr(node.func, "id", "") in WALKERS:
+                    walked += node.args
+            for node in ast.walk(tree):
+                called = getattr(node, "func", None)
+                if getattr(called, "id", getattr(called, "attr", "")) in WALKED_AT_ONCE:
+                    self.assertIn(node, walked, (name, node.lineno))
 
     def test_methods_and_values_of_objects(self):
         methods, values, parts = set(), set(), set()
