@@ -113,7 +113,8 @@ class Exchange(Case):
 
     def test_each_client_knows_its_own(self):
         told = run(*TWO, exchange(0, 10, 100, 20), exchange(9, 5, 0, 6), exchange(0, 10, 100, 20), offset(9, 6))
-        self.assertEqual(told[4:], [[0, 1, 80, 1, 90, 1], [0, 1, -6, 1, -5, 1], [0, 1, 80, 1, 90, 1], [0, -6, 1, -5, 1]])
+        self.assertEqual(told[4:], [
+            [0, 1, 80, 1, 90, 1], [0, 1, -6, 1, -5, 1], [0, 1, 80, 1, 90, 1], [0, -6, 1, -5, 1]])
 
 
 class Offset(Case):

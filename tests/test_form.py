@@ -23,8 +23,8 @@ METHODS = """append clear copy count endswith extend find get index insert isaln
 UNUSED_WORDS = """type typing typing_extensions enum Enum IntEnum StrEnum Flag IntFlag Generic Protocol ABC ABCMeta
     namedtuple NamedTuple TypedDict TYPE_CHECKING abstractmethod""".split()
 UNUSED_NAMES = """register mro elements open input version_info with_traceback add_note format format_map attrgetter
-    breakpoint builtins compile copyright credits delattr dir eval exec exit gc getattr globals hasattr help id importlib
-    license locals methodcaller os quit setattr super type vars sys""".split()
+    breakpoint builtins compile copyright credits delattr dir eval exec exit gc getattr globals hasattr help id
+    importlib license locals methodcaller os quit setattr super type vars sys""".split()
 WALKED_AT_ONCE = "zip enumerate reversed range items keys values".split()
 WALKERS = "list tuple dict sorted sum any all enumerate zip min max".split()
 SPECIAL = "__init__ __eq__ __repr__ __str__ __len__".split()

@@ -7,8 +7,8 @@ from fractions import Fraction
 from mirrornet.mirrors import answer_call
 from mirrornet.net import Net
 from tests.helper import (
-    BIG, Case, base, body, client, counts, deliver, drift, exchange, guess, offset, packet, push, put, render, ring, run, send,
-    shot, shown, split, state, tick, unset, up, world,
+    BIG, Case, base, body, client, counts, deliver, drift, exchange, guess, offset, packet, push, put, render, ring,
+    run, send, shot, shown, split, state, tick, unset, up, world,
 )
 
 PLACE, SPEED = range(0, 1001), range(-20, 21)

@@ -2,8 +2,8 @@
 
 from mirrornet.mirrors import answers
 from tests.helper import (
-    BIG, Case, base, body, client, counts, deliver, drift, exchange, guess, offset, packet, push, put, render, ring, run,
-    send, shot, tick, unset, up, world,
+    BIG, Case, base, body, client, counts, deliver, drift, exchange, guess, offset, packet, push, put, render, ring,
+    run, send, shot, tick, unset, up, world,
 )
 
 LINE = [number for call in (
@@ -70,15 +70,15 @@ class Interface(Case):
         self.assertEqual(answers([7, 0]), [1, -1])
         self.assertEqual(answers([18]), [5, 0, 0, 0, 0, 0])
         self.assertEqual(answers([16, 500]), [1, 0])
-        for call in ([10, 0], [11, 0], [12, 0, 0, 0, 1], [13, 0, 1, 0, 1, 2, 1, 1], [14, 0, 1, 2, 3], [15, 0, 1], [17, 0],
-                     [19, 0]):
+        for call in ([10, 0], [11, 0], [12, 0, 0, 0, 1], [13, 0, 1, 0, 1, 2, 1, 1], [14, 0, 1, 2, 3], [15, 0, 1],
+                     [17, 0], [19, 0]):
             self.assertEqual(answers(call), [1, -1])
 
     def test_each_call_takes_its_own_numbers(self):
         # Behind each call stands one that answers its own way.
         calls = [body(0), client(0, 0), put(2000, 1), unset(2000), tick(), send(0), up(0), deliver(0), push(0), world(),
-                 base(0), guess(0), render(0, 0, 1), shot(0, 1, 1, 1, 2, 1), exchange(0, 1, 2, 3), offset(0, 4), drift(3),
-                 packet(0), counts(), ring(0)]
+                 base(0), guess(0), render(0, 0, 1), shot(0, 1, 1, 1, 2, 1), exchange(0, 1, 2, 3), offset(0, 4),
+                 drift(3), packet(0), counts(), ring(0)]
         self.assertEqual([call[0] for call in calls], list(range(20)))
         for place, call in enumerate(calls):
             told = run(*calls[:place + 1], drift(501), deliver(-1), tick())

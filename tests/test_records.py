@@ -1,7 +1,8 @@
 """packet and counts: what was made stays as it was, and how much of all there is."""
 
 from tests.helper import (
-    BIG, Case, body, client, counts, deliver, exchange, last, packet, play, push, put, run, send, state, tick, unset, up,
+    BIG, Case, body, client, counts, deliver, exchange, last, packet, play, push, put, run, send, state, tick, unset,
+    up,
 )
 
 ONE = [body(0), client(0, 0)]
@@ -20,9 +21,9 @@ class Packet(Case):
         self.assertEqual(last(*ONE, tick(), send(0), packet(0)), [0, 0, 0, 1, 0, 5] + NEW)
 
     def test_down_of_each_kind_of_change(self):
-        calls = [body(2, 1, 2, 3, 4), client(7, 2), put(2000, 5), put(2001, 0), put(2003, 9), put(2004, 8), tick(), send(7)]
-        calls += [deliver(0), up(7), deliver(1), put(2000, -6), unset(2001), put(2002, 0), unset(2003), put(2003, 9)]
-        calls += [put(2004, 0), put(2063, 1000000), put(8, 0), tick(), send(7)]
+        calls = [body(2, 1, 2, 3, 4), client(7, 2), put(2000, 5), put(2001, 0), put(2003, 9), put(2004, 8), tick()]
+        calls += [send(7), deliver(0), up(7), deliver(1), put(2000, -6), unset(2001), put(2002, 0), unset(2003)]
+        calls += [put(2003, 9), put(2004, 0), put(2063, 1000000), put(8, 0), tick(), send(7)]
         self.assertEqual(last(*calls, packet(2)), [
             0, 0, 7, 2, 1, 6, 8, 1, 1, 1, 0, 2000, 1, 5, 1, -6, 2001, 1, 0, 0, 0, 2002, 0, 0, 1, 0, 2004, 1, 8, 1, 0,
             2063, 0, 0, 1, 1000000])
@@ -47,7 +48,8 @@ class Packet(Case):
 
     def test_up_with_64_inputs(self):
         calls = ONE + [push(0, 1, 0) for count in range(65)] + [up(0)]
-        self.assertEqual(last(*calls, packet(0)), [0, 1, 0, 0, 64] + [n for count in range(64) for n in (count + 1, 1, 0)])
+        inputs = [n for count in range(64) for n in (count + 1, 1, 0)]
+        self.assertEqual(last(*calls, packet(0)), [0, 1, 0, 0, 64] + inputs)
 
     def test_numbers_and_clients(self):
         calls = ONE + [body(1), client(8, 1), push(8, 2, 2), tick(), up(8), send(8), up(0), send(0)]
@@ -76,7 +78,8 @@ class Packet(Case):
         self.assertEqual(last(*calls, send(0), packet(2)), [0, 0, 0, 101, 1, 1, 2000, 1, 1, 1, 2])
 
     def test_changes_told_are_those_counted(self):
-        calls = ONE + [put(2000, 1), tick(), send(0), deliver(0), up(0), deliver(1), unset(2000), body(1), tick(), send(0)]
+        calls = ONE + [put(2000, 1), tick(), send(0), deliver(0), up(0), deliver(1)]
+        calls += [unset(2000), body(1), tick(), send(0)]
         sent = last(*calls)
         told = last(*calls, packet(2))
         self.assertEqual((sent[2:], len(told)), (told[3:6], 6 + 5 * told[5]))

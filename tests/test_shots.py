@@ -87,7 +87,8 @@ class Refusals(Case):
 
 class Meets(Case):
     def check(self, calls, direction, *wanted):
-        self.assertEqual(last(*calls, shot(0, *direction, 1, 2, 1)), [0, len(wanted)] + [n for row in wanted for n in row])
+        rows = [n for row in wanted for n in row]
+        self.assertEqual(last(*calls, shot(0, *direction, 1, 2, 1)), [0, len(wanted)] + rows)
 
     def test_nobody_else(self):
         self.check(SHOOTER + [tick(), tick()], (1, 0))

@@ -24,7 +24,8 @@ class Base(Case):
             self.refused(ONE + [tick(), send(0), deliver(0)], base(c), -1)
 
     def test_the_world_that_came(self):
-        told = last(body(2, 1, 2, 3, -4), client(6, 2), put(2063, -7), put(2000, 0), tick(), send(6), deliver(0), base(6))
+        calls = [body(2, 1, 2, 3, -4), client(6, 2), put(2063, -7), put(2000, 0), tick(), send(6), deliver(0)]
+        told = last(*calls, base(6))
         self.assertEqual(told, [0, 1, 7, 8, 1, 9, 2, 10, 3, 11, -4, 1002, 0, 2000, 0, 2063, -7])
 
     def test_a_world_without_keys(self):
@@ -57,7 +58,8 @@ class BadNet(Case):
     """Ten ticks, each with another world and a packet down; they come in all sorts of orders."""
 
     CALLS = ONE + [call for count in range(1, 11) for call in (
-        put(2000, count), put(2000 + count % 3, -count), push(0, 1, -1), up(0), deliver(2 * count - 2), tick(), send(0))]
+        put(2000, count), put(2000 + count % 3, -count), push(0, 1, -1), up(0), deliver(2 * count - 2), tick(),
+        send(0))]
     ORDERS = (
         (0, 1, 2, 3, 4, 5, 6, 7, 8, 9), (9,), (4, 4, 4), (9, 8, 7, 6), (0, 5, 3, 7, 7, 1, 8), (2, 0, 2, 9, 9, 1),
     )
